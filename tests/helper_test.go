@@ -4,6 +4,8 @@ import (
 	"math/big"
 	"slices"
 	"strings"
+
+	"loop.example/g00742/impl"
 )
 
 // filler is what the tests write over memory that nobody but its owner may look at.
@@ -107,4 +109,40 @@ func wrongTexts() []string {
 	list := []string{"", " ", "00", "01", "007", "-0", "-1", "+1", " 1", "1 ", "1 2", "1\n", "1.0", "1e3", "0x1", "1_000", "a", "1a", "/", ":", "1/", "1:", "\x00", "1\x00", "\xff", "1\xb2", "٣", "１", "²"}
 	long := strings.Repeat("9", 500)
 	return append(list, "0"+long, long+"x", long+" ", "-"+long)
+}
+
+// bigOf is the number as a big, reckoned without the program.
+func bigOf(n *big.Int) impl.Big {
+	return impl.Big{Neg: n.Sign() < 0, Limbs: limbsOf(new(big.Int).Abs(n))}
+}
+
+// intOf is the number that a big is, reckoned without the program.
+func intOf(a impl.Big) *big.Int {
+	n := numberOf(a.Limbs)
+	if a.Neg {
+		n.Neg(n)
+	}
+	return n
+}
+
+// big throws a big of n limbs.
+func (d *dice) big(n int) impl.Big {
+	return impl.Big{Neg: n > 0 && d.below(2) == 0, Limbs: d.natural(n)}
+}
+
+// edgeBigs are the naturals of edgeNaturals and what is as far below 0, and the ends of a word with their neighbours.
+func edgeBigs() []impl.Big {
+	var list []impl.Big
+	for _, limbs := range edgeNaturals() {
+		list = append(list, impl.Big{Limbs: limbs})
+		if len(limbs) > 0 {
+			list = append(list, impl.Big{Neg: true, Limbs: limbs})
+		}
+	}
+	for _, plus := range []int64{-2, -1, 0, 1, 2} {
+		end := new(big.Int).Lsh(big.NewInt(1), 63)
+		end.Add(end, big.NewInt(plus))
+		list = append(list, bigOf(end), bigOf(new(big.Int).Neg(end)))
+	}
+	return list
 }

@@ -10,15 +10,16 @@ import (
 	"loop.example/g00742/impl"
 )
 
-// answer is what any function of chapter 1 answers: its numbers and text, and its lists.
+// answer is what any function answers: its numbers and text, its sign, and its lists.
 type answer struct {
 	code  int64
 	value int64
 	text  string
+	neg   bool
 	lists [][]int64
 }
 
-// call is a function of chapter 1, as one of two lists.
+// call is a function, as one of two lists.
 type call struct {
 	name string
 	both bool
@@ -29,7 +30,13 @@ func ofNat(r impl.NatResult) answer {
 	return answer{code: r.Code, lists: [][]int64{r.Limbs}}
 }
 
+// calls are the functions of all chapters that are built.
 func calls() []call {
+	return append(natCalls(), signedCalls()...)
+}
+
+// natCalls are the functions of chapter 1.
+func natCalls() []call {
 	return []call{
 		{"NatFault", false, func(a, b []int64) answer { return answer{code: impl.NatFault(a)} }},
 		{"NatValue", false, func(a, b []int64) answer {
@@ -52,7 +59,7 @@ func calls() []call {
 }
 
 func sameAnswers(x answer, y answer) bool {
-	return x.code == y.code && x.value == y.value && x.text == y.text && slices.EqualFunc(x.lists, y.lists, slices.Equal)
+	return x.code == y.code && x.value == y.value && x.text == y.text && x.neg == y.neg && slices.EqualFunc(x.lists, y.lists, slices.Equal)
 }
 
 func copyOf(x answer) answer {
@@ -174,7 +181,7 @@ func TestPromise1NilIsEmpty(t *testing.T) {
 func TestPromise1Faults(t *testing.T) {
 	faults := faultyNaturals(impl.ErrMany, impl.ErrRange, impl.ErrForm)
 	for _, f := range faults {
-		for _, c := range calls() {
+		for _, c := range natCalls() {
 			want := answer{code: f.code, lists: make([][]int64, len(c.run(nil, nil).lists))}
 			if c.name == "CompareNats" {
 				want.code = 0
