@@ -1,6 +1,7 @@
 package tests
 
 import (
+	"math"
 	"math/big"
 	"slices"
 	"strings"
@@ -145,4 +146,83 @@ func edgeBigs() []impl.Big {
 		list = append(list, bigOf(end), bigOf(new(big.Int).Neg(end)))
 	}
 	return list
+}
+
+// precisions are all that there are.
+var precisions = []int64{48, 72, 96}
+
+// noPrecisions are numbers about the precisions, and ones of which a part is one.
+func noPrecisions() []int64 {
+	list := []int64{math.MinInt64, math.MaxInt64, 48 + 1<<8, 72 + 1<<16, 96 + 1<<32, 48 + math.MinInt64}
+	for p := int64(-100); p <= 200; p++ {
+		if !slices.Contains(precisions, p) {
+			list = append(list, p)
+		}
+	}
+	return list
+}
+
+// twoTo is 2 to the power of n, and plus more.
+func twoTo(n int64, plus int64) *big.Int {
+	p := new(big.Int).Lsh(big.NewInt(1), uint(n))
+	return p.Add(p, big.NewInt(plus))
+}
+
+func negative(x *big.Int) *big.Int {
+	return new(big.Int).Neg(x)
+}
+
+// spanOf is the span from low to high, reckoned without the program.
+func spanOf(low *big.Int, high *big.Int) impl.Span {
+	return impl.Span{Low: bigOf(low), High: bigOf(high)}
+}
+
+// smallSpan is the span from low to high.
+func smallSpan(low int64, high int64) impl.Span {
+	return spanOf(big.NewInt(low), big.NewInt(high))
+}
+
+// spansOf are the spans from each of these ends to itself and to each one above it.
+func spansOf(ends []*big.Int) []impl.Span {
+	var list []impl.Span
+	for _, low := range ends {
+		for _, high := range ends {
+			if low.Cmp(high) <= 0 {
+				list = append(list, spanOf(low, high))
+			}
+		}
+	}
+	return list
+}
+
+// bothSigns are 0, these numbers, and what is as far below 0.
+func bothSigns(numbers ...*big.Int) []*big.Int {
+	list := []*big.Int{new(big.Int)}
+	for _, n := range numbers {
+		list = append(list, n, negative(n))
+	}
+	return list
+}
+
+// nearEnds are ends about 0 and about one.
+func nearEnds(p int64) []*big.Int {
+	half := twoTo(p-1, 0)
+	return bothSigns(big.NewInt(1), twoTo(p, 0), new(big.Int).Add(twoTo(p+1, 1), half))
+}
+
+// edgeEnds are ends of all sizes, and those at which a sum, a product, a quotient or a square comes to MaxEnd limbs or to one more.
+func edgeEnds(p int64) []*big.Int {
+	return bothSigns(
+		big.NewInt(1), big.NewInt(2), twoTo(p, -1), twoTo(p, 0), twoTo(p, 1), twoTo(p/2, 0), twoTo(p+2, -1),
+		twoTo(160+p/2, -1), twoTo(160+p/2, 0), twoTo(160+p/2, 1), twoTo(320-p, -1), twoTo(320-p, 0), twoTo(319, 0), twoTo(320, -2), twoTo(320, -1),
+	)
+}
+
+// span throws a span whose ends have n limbs at most.
+func (d *dice) span(n int) impl.Span {
+	x, y := intOf(d.big(d.below(n+1))), intOf(d.big(d.below(n+1)))
+	if x.Cmp(y) > 0 {
+		x, y = y, x
+	}
+	return spanOf(x, y)
 }

@@ -30,7 +30,7 @@ func ofNat(r impl.NatResult) answer {
 	return answer{code: r.Code, lists: [][]int64{r.Limbs}}
 }
 
-// calls are the functions of all chapters that are built.
+// calls are the functions of the chapters whose arguments are two lists, or can be told by these.
 func calls() []call {
 	return append(natCalls(), signedCalls()...)
 }
@@ -101,38 +101,49 @@ func promise1Lists() [][]int64 {
 }
 
 // checkPure checks that one call changes no argument, shares no memory, and answers the same again.
-func checkPure(t *testing.T, c call, givenA []int64, givenB []int64) {
+func checkPure(t *testing.T, name string, run func(lists [][]int64) answer, given ...[]int64) {
 	t.Helper()
-	a, b := roomy(givenA), roomy(givenB)
-	first := c.run(a, b)
+	lists, clipped := make([][]int64, len(given)), make([][]int64, len(given))
+	for i, list := range given {
+		lists[i], clipped[i] = roomy(list), slices.Clip(list)
+	}
+	first := run(lists)
 	want := copyOf(first)
 	unchanged := func(what string) {
-		if !slices.Equal(a[:cap(a)], roomy(givenA)[:cap(a)]) || !slices.Equal(b[:cap(b)], roomy(givenB)[:cap(b)]) {
-			t.Errorf("%s of %v and %v: %s", c.name, givenA, givenB, what)
+		for i, list := range lists {
+			if !slices.Equal(list[:cap(list)], roomy(given[i])[:cap(list)]) {
+				t.Errorf("%s of %v: %s", name, given, what)
+			}
 		}
 	}
 	unchanged("an argument is changed")
-	second := c.run(a, b)
+	second := run(lists)
 	for i := range second.lists {
 		scribble(second.lists[i])
 		for j := range second.lists {
 			if j > i && !slices.Equal(second.lists[j], want.lists[j]) {
-				t.Errorf("%s of %v and %v: two lists share memory", c.name, givenA, givenB)
+				t.Errorf("%s of %v: two lists share memory", name, given)
 			}
 		}
 	}
 	unchanged("the answer shares memory with an argument")
 	if !sameAnswers(first, want) {
-		t.Errorf("%s of %v and %v: two answers share memory", c.name, givenA, givenB)
+		t.Errorf("%s of %v: two answers share memory", name, given)
 	}
-	scribble(a)
-	scribble(b)
+	for _, list := range lists {
+		scribble(list)
+	}
 	if !sameAnswers(first, want) {
-		t.Errorf("%s of %v and %v: the answer is kept in an argument", c.name, givenA, givenB)
+		t.Errorf("%s of %v: the answer is kept in an argument", name, given)
 	}
-	if got := c.run(slices.Clip(givenA), slices.Clip(givenB)); !sameAnswers(got, want) {
-		t.Errorf("%s of %v and %v: got %v, and then %v", c.name, givenA, givenB, want, got)
+	if got := run(clipped); !sameAnswers(got, want) {
+		t.Errorf("%s of %v: got %v, and then %v", name, given, want, got)
 	}
+}
+
+// runOn is the call, as one of a list of lists.
+func (c call) runOn(lists [][]int64) answer {
+	return c.run(lists[0], lists[1])
 }
 
 func TestPromise1Pure(t *testing.T) {
@@ -140,11 +151,11 @@ func TestPromise1Pure(t *testing.T) {
 	for _, c := range calls() {
 		for _, a := range list {
 			if !c.both {
-				checkPure(t, c, a, nil)
+				checkPure(t, c.name, c.runOn, a, nil)
 				continue
 			}
 			for _, b := range list {
-				checkPure(t, c, a, b)
+				checkPure(t, c.name, c.runOn, a, b)
 			}
 		}
 	}
@@ -258,23 +269,34 @@ func TestPromise1LongTexts(t *testing.T) {
 	}
 }
 
-// The answer of a call does not hang on what was called between.
+// checkKeepsNothing checks that no answer hangs on what was asked ahead of it.
+func checkKeepsNothing(t *testing.T, questions []func() answer) {
+	t.Helper()
+	ask := func() []answer {
+		var answers []answer
+		for _, question := range questions {
+			answers = append(answers, copyOf(question()))
+		}
+		return answers
+	}
+	first := ask()
+	slices.Reverse(questions)
+	turned := ask()
+	slices.Reverse(questions)
+	again := ask()
+	slices.Reverse(turned)
+	if !reflect.DeepEqual(first, turned) || !reflect.DeepEqual(first, again) {
+		t.Error("the same calls answer otherwise in another order, or a second time")
+	}
+}
+
 func TestPromise1KeepsNothing(t *testing.T) {
 	list := promise1Lists()
-	var first, again []answer
-	ask := func(out *[]answer) {
-		for _, c := range calls() {
-			for i, a := range list {
-				*out = append(*out, copyOf(c.run(a, list[len(list)-1-i])))
-			}
+	var questions []func() answer
+	for _, c := range calls() {
+		for i, a := range list {
+			questions = append(questions, func() answer { return c.run(a, list[len(list)-1-i]) })
 		}
 	}
-	ask(&first)
-	slices.Reverse(list)
-	ask(new([]answer))
-	slices.Reverse(list)
-	ask(&again)
-	if !reflect.DeepEqual(first, again) {
-		t.Error("the same calls answer otherwise the second time")
-	}
+	checkKeepsNothing(t, questions)
 }
