@@ -144,15 +144,20 @@ func TestPromise1SpansPure(t *testing.T) {
 	}
 }
 
-// All four ends may be one list: what is answered is not.
 func TestPromise1SpansOfOneList(t *testing.T) {
+	checkOneList(t, allSpanCalls())
+}
+
+// checkOneList lets all four ends be one list: what is answered is not.
+func checkOneList(t *testing.T, calls []spanCall) {
+	t.Helper()
 	for _, limbs := range [][]int64{{}, {5}, {0, 0, 0, 1}, {0, 0, 0, 0, 256}, allLimbs(12, 65535), allLimbs(20, 65535), {65536}} {
 		for _, neg := range []bool{false, true} {
 			list := roomy(limbs)
 			one := impl.Big{Neg: neg, Limbs: list}
 			two := impl.Big{Neg: neg, Limbs: slices.Clone(limbs)}
 			a := impl.Span{Low: one, High: one}
-			for _, c := range allSpanCalls() {
+			for _, c := range calls {
 				for _, p := range c.precisionsOf() {
 					want := copyOf(c.run(p, impl.Span{Low: two, High: two}, impl.Span{Low: two, High: two}))
 					got := c.run(p, a, a)
@@ -174,11 +179,17 @@ func TestPromise1SpansOfOneList(t *testing.T) {
 	}
 }
 
-// The fault of a is asked ahead of that of b, and both ahead of what is divided by 0, of a root below 0, of a meeting and of ErrFull.
+// The faults are asked ahead of what is divided by 0, of a root below 0, of a meeting and of ErrFull.
 func TestPromise1SpanFaults(t *testing.T) {
+	checkSpanFaults(t, spanCalls())
+}
+
+// checkSpanFaults checks that the fault of a is asked ahead of that of b, and both ahead of the call's own codes.
+func checkSpanFaults(t *testing.T, calls []spanCall) {
+	t.Helper()
 	faults := faultySpans()
 	sound := append(spansOf(nearEnds(48)), spanOf(power(20, -1), power(20, -1)), spanOf(negative(power(20, -1)), power(20, -1)))
-	for _, c := range spanCalls() {
+	for _, c := range calls {
 		for i, f := range faults {
 			want := c.wantFault(f.code)
 			check := func(a, b impl.Span) {
@@ -200,13 +211,18 @@ func TestPromise1SpanFaults(t *testing.T) {
 	}
 }
 
-// What is no precision is asked ahead of all else.
 func TestPromise1NoPrecision(t *testing.T) {
+	checkNoPrecision(t, allSpanCalls())
+}
+
+// checkNoPrecision checks that what is no precision is asked ahead of all else.
+func checkNoPrecision(t *testing.T, calls []spanCall) {
+	t.Helper()
 	spans := pureSpans()
 	for _, f := range faultySpans() {
 		spans = append(spans, f.span)
 	}
-	for _, c := range allSpanCalls() {
+	for _, c := range calls {
 		if !c.precise {
 			continue
 		}
@@ -271,8 +287,14 @@ func TestPromise1SpanBounds(t *testing.T) {
 	if code := impl.SpanFault(impl.Span{}); code != impl.OK {
 		t.Errorf("SpanFault of the zero value: got %d", code)
 	}
+	checkEmptyEnds(t, allSpanCalls())
+}
+
+// checkEmptyEnds checks that nil and the empty list are the same number.
+func checkEmptyEnds(t *testing.T, calls []spanCall) {
+	t.Helper()
 	empty := impl.Big{Limbs: []int64{}}
-	for _, c := range allSpanCalls() {
+	for _, c := range calls {
 		for _, p := range c.precisionsOf() {
 			if !sameAnswers(c.run(p, impl.Span{}, impl.Span{}), c.run(p, impl.Span{Low: empty, High: empty}, impl.Span{Low: empty, High: empty})) {
 				t.Errorf("%s: nil and the empty list differ", c.name)
@@ -281,10 +303,15 @@ func TestPromise1SpanBounds(t *testing.T) {
 	}
 }
 
-// Lists of any length are answered.
 func TestPromise1LongSpans(t *testing.T) {
+	checkLongSpans(t, spanCalls())
+}
+
+// checkLongSpans checks that lists of any length are answered.
+func checkLongSpans(t *testing.T, calls []spanCall) {
+	t.Helper()
 	long := impl.Big{Limbs: allLimbs(1000000, 65535)}
-	for _, c := range spanCalls() {
+	for _, c := range calls {
 		if got := c.run(72, impl.Span{Low: long, High: long}, impl.Span{}); !sameAnswers(got, c.wantFault(impl.ErrMany)) {
 			t.Errorf("%s of 1000000 limbs: got code %d", c.name, got.code)
 		}
@@ -292,14 +319,18 @@ func TestPromise1LongSpans(t *testing.T) {
 }
 
 func TestPromise1SpansKeepNothing(t *testing.T) {
-	list := pureSpans()
+	checkKeepsNothing(t, spanQuestions(allSpanCalls(), pureSpans()))
+}
+
+// spanQuestions ask each call of each span and another one.
+func spanQuestions(calls []spanCall, list []impl.Span) []func() answer {
 	var questions []func() answer
-	for _, c := range allSpanCalls() {
+	for _, c := range calls {
 		for _, p := range c.precisionsOf() {
 			for i, a := range list {
 				questions = append(questions, func() answer { return c.run(p, a, list[len(list)-1-i]) })
 			}
 		}
 	}
-	checkKeepsNothing(t, questions)
+	return questions
 }
