@@ -79,7 +79,7 @@ func NatValue(a []int64) IntResult {
 }
 
 func AddNats(a []int64, b []int64) NatResult {
-	if code := firstNatFault(a, b); code != OK {
+	if code := firstFault(NatFault, a, b); code != OK {
 		return NatResult{Code: code}
 	}
 	sum := make([]int64, max(len(a), len(b))+1)
@@ -89,7 +89,7 @@ func AddNats(a []int64, b []int64) NatResult {
 }
 
 func SubNats(a []int64, b []int64) NatResult {
-	if code := firstNatFault(a, b); code != OK {
+	if code := firstFault(NatFault, a, b); code != OK {
 		return NatResult{Code: code}
 	}
 	if CompareNats(a, b) < 0 {
@@ -101,7 +101,7 @@ func SubNats(a []int64, b []int64) NatResult {
 }
 
 func MulNats(a []int64, b []int64) NatResult {
-	if code := firstNatFault(a, b); code != OK {
+	if code := firstFault(NatFault, a, b); code != OK {
 		return NatResult{Code: code}
 	}
 	product := make([]int64, len(a)+len(b))
@@ -112,7 +112,7 @@ func MulNats(a []int64, b []int64) NatResult {
 }
 
 func DivNats(a []int64, b []int64) DivResult {
-	if code := firstNatFault(a, b); code != OK {
+	if code := firstFault(NatFault, a, b); code != OK {
 		return DivResult{Code: code}
 	}
 	if len(b) == 0 {
@@ -129,7 +129,7 @@ func DivNats(a []int64, b []int64) DivResult {
 }
 
 func CompareNats(a []int64, b []int64) int64 {
-	if firstNatFault(a, b) != OK {
+	if firstFault(NatFault, a, b) != OK {
 		return 0
 	}
 	for i := max(len(a), len(b)) - 1; i >= 0; i-- {
@@ -185,10 +185,10 @@ func inOrder(numbers ...int64) bool {
 	return true
 }
 
-// firstNatFault is the first code that a NatFault of the lists tells.
-func firstNatFault(lists ...[]int64) int64 {
-	for _, a := range lists {
-		if code := NatFault(a); code != OK {
+// firstFault is the first code that fault tells of these.
+func firstFault[T any](fault func(T) int64, list ...T) int64 {
+	for _, each := range list {
+		if code := fault(each); code != OK {
 			return code
 		}
 	}

@@ -63,7 +63,13 @@ func TestPromise1AnglesOfOneList(t *testing.T) {
 // The faults are asked ahead of an end that is too far, of a High below 0, and of what cannot be told.
 func TestPromise1AngleFaults(t *testing.T) {
 	checkSpanFaults(t, angleCalls())
-	for _, c := range angleCalls() {
+	checkTurnedEnds(t, angleCalls())
+}
+
+// checkTurnedEnds checks that a Low above its High is asked ahead of where both ends are.
+func checkTurnedEnds(t *testing.T, calls []spanCall) {
+	t.Helper()
+	for _, c := range calls {
 		for _, p := range precisions {
 			for _, a := range []impl.Span{wholeSpan(p, 9, 8), wholeSpan(p, 8, -8), wholeSpan(p, -8, -9), wholeSpan(p, 1, 0), wholeSpan(p, 0, -1)} {
 				if got := c.run(p, a, impl.Span{}); !sameAnswers(got, c.wantFault(impl.ErrForm)) {

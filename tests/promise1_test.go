@@ -14,6 +14,7 @@ import (
 type answer struct {
 	code  int64
 	value int64
+	high  int64
 	text  string
 	neg   bool
 	lists [][]int64
@@ -59,7 +60,7 @@ func natCalls() []call {
 }
 
 func sameAnswers(x answer, y answer) bool {
-	return x.code == y.code && x.value == y.value && x.text == y.text && x.neg == y.neg && slices.EqualFunc(x.lists, y.lists, slices.Equal)
+	return x.code == y.code && x.value == y.value && x.high == y.high && x.text == y.text && x.neg == y.neg && slices.EqualFunc(x.lists, y.lists, slices.Equal)
 }
 
 func copyOf(x answer) answer {

@@ -179,6 +179,11 @@ func TestPromise5Known(t *testing.T) {
 		{"twice that of 1 and 2", impl.HalfTurn(96, wholeSpan(96, 1, 1), wholeSpan(96, 2, 2)), "73467896230531911251287885072", "73467896230531911251287885520"},
 		{"twice that of 3 and 1", impl.HalfTurn(96, wholeSpan(96, 3, 3), wholeSpan(96, 1, 1)), "197919202886647453866548857120", "197919202886647453866548858092"},
 	}
+	checkKnown(t, cases)
+}
+
+func checkKnown(t *testing.T, cases []knownEnds) {
+	t.Helper()
 	for _, c := range cases {
 		low, _ := new(big.Int).SetString(c.low, 10)
 		high, _ := new(big.Int).SetString(c.high, 10)
