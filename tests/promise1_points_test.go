@@ -6,7 +6,7 @@ import (
 	"loop.example/g00742/impl"
 )
 
-// pointCall is a function of chapter 5, as one of a precision and two points.
+// pointCall is a function of chapter 5, or TurnOf of chapter 6, as one of a precision and two points.
 type pointCall struct {
 	name    string
 	precise bool
@@ -39,6 +39,7 @@ func pointCalls() []pointCall {
 			return answer{}
 		}},
 		{"VectorOf", true, false, func(p int64, a, b impl.Point) answer { return ofVector(impl.VectorOf(p, a)) }},
+		{"TurnOf", true, true, func(p int64, a, b impl.Point) answer { return ofSpan(impl.TurnOf(p, a, b)) }},
 		{"AngleOf", true, true, func(p int64, a, b impl.Point) answer { return ofSpan(impl.AngleOf(p, a, b)) }},
 		{"DistanceOf", true, true, func(p int64, a, b impl.Point) answer { return ofRange(impl.DistanceOf(p, a, b)) }},
 	}

@@ -182,19 +182,10 @@ func checkDistance(t *testing.T, p int64, a impl.Point, b impl.Point, truth *big
 }
 
 func TestPromise6Distances(t *testing.T) {
-	pairs := pointPairs()
-	truths := make([]*big.Int, len(pairs))
-	for i, pair := range pairs {
-		truths[i] = trueAngle(pair[0], pair[1])
-	}
-	for _, p := range precisions {
-		t.Run(fmt.Sprint(p), func(t *testing.T) {
-			t.Parallel()
-			for i, pair := range pairs {
-				checkDistance(t, p, pair[0], pair[1], truths[i])
-			}
-		})
-	}
+	truth := func(pair pointPair) *big.Int { return trueAngle(pair[0], pair[1]) }
+	withTruths(t, pointPairs(), truth, func(t *testing.T, p int64, pair pointPair, truth *big.Int) {
+		checkDistance(t, p, pair[0], pair[1], truth)
+	})
 }
 
 // Of points opposite each other the angle reaches to half around, and of nearly the same ones it is more than 0 at the highest precision.

@@ -1,6 +1,7 @@
 package tests
 
 import (
+	"fmt"
 	"math/big"
 	"strings"
 	"testing"
@@ -11,8 +12,8 @@ import (
 // fine is how many binary places the tests reckon with where they ask for the true number.
 const fine = 320
 
-// slack is more than what the rounding of a series with fine places adds up to, and far less than any unit.
-var slack = twoTo(40, 0)
+// slack is more than what the rounding of a series with fine places adds up to, also where it is divided by the square of a billionth of a degree, and far less than any unit.
+var slack = twoTo(110, 0)
 
 // piDigits are the first digits of the number of the circle.
 const piDigits = "3.1415926535897932384626433832795028841971693993751058209749445923078164062862089986280348253421170679"
@@ -113,6 +114,23 @@ func checkNarrow(t *testing.T, what string, got impl.SpanResult, units int64) {
 	low, high := endsOf(got.Span)
 	if width := high.Sub(high, low); got.Code != impl.OK || width.Cmp(big.NewInt(units)) > 0 {
 		t.Errorf("%s: got %v, which is more than %d units wide", what, got, units)
+	}
+}
+
+// withTruths checks each case with each precision. What is true of a case is reckoned once for all of them.
+func withTruths[T any](t *testing.T, cases []T, truth func(T) *big.Int, check func(t *testing.T, p int64, each T, truth *big.Int)) {
+	t.Helper()
+	truths := make([]*big.Int, len(cases))
+	for i, each := range cases {
+		truths[i] = truth(each)
+	}
+	for _, p := range precisions {
+		t.Run(fmt.Sprint(p), func(t *testing.T) {
+			t.Parallel()
+			for i, each := range cases {
+				check(t, p, each, truths[i])
+			}
+		})
 	}
 }
 
