@@ -8,7 +8,7 @@ import (
 	"loop.example/g00742/impl"
 )
 
-// listCall is a function of chapter 6, as one of a precision and two lists of points.
+// listCall is a function of chapter 6 or 7, as one of a precision and two lists of points.
 type listCall struct {
 	name    string
 	precise bool
@@ -88,7 +88,7 @@ func faultyLists(many, outOfRange int64) []faultyList {
 // No argument is changed, nor what is behind it, and an answer hangs neither on that nor on what is written there later.
 func TestPromise1MeasuresPure(t *testing.T) {
 	all := sumLists()
-	for _, c := range listCalls() {
+	for _, c := range allListCalls() {
 		for _, p := range append(c.precisionsOf(), 50) {
 			for i, a := range all {
 				b := all[(i*7+3)%len(all)]
@@ -113,7 +113,7 @@ func TestPromise1MeasuresOfOneList(t *testing.T) {
 	whole := d.ring(mostPoints)
 	before := slices.Clone(whole)
 	parts := [][]impl.Point{whole, whole[:5], whole[3:9], whole[11:], whole[:0]}
-	for _, c := range listCalls() {
+	for _, c := range allListCalls() {
 		for _, p := range c.precisionsOf() {
 			for _, a := range parts {
 				for _, b := range parts {
@@ -128,7 +128,7 @@ func TestPromise1MeasuresOfOneList(t *testing.T) {
 }
 
 func TestPromise1MeasuresNilIsEmpty(t *testing.T) {
-	for _, c := range listCalls() {
+	for _, c := range allListCalls() {
 		for _, p := range append(c.precisionsOf(), 50) {
 			for _, other := range [][]impl.Point{nil, {}, {pointAt(5, 5)}, {pointAt(0, poleLat+1)}} {
 				c.check(t, p, nil, other, c.run(p, []impl.Point{}, other))
@@ -144,7 +144,7 @@ func TestPromise1ListFaults(t *testing.T) {
 	d := dice(114)
 	others := [][]impl.Point{d.places(1), d.places(mostPoints), nil, d.places(mostPoints + 1), alike(3, faultyPoints()[0])}
 	for _, f := range faults {
-		for _, c := range listCalls() {
+		for _, c := range allListCalls() {
 			for _, p := range c.precisionsOf() {
 				for i, other := range others {
 					c.check(t, p, f.list, other, answer{code: f.code})
@@ -162,7 +162,7 @@ func TestPromise1ListFaults(t *testing.T) {
 
 func TestPromise1ListBounds(t *testing.T) {
 	d := dice(115)
-	for _, c := range listCalls() {
+	for _, c := range allListCalls() {
 		for _, p := range c.precisionsOf() {
 			for n := range mostPoints + 3 {
 				want := int64(impl.OK)
@@ -205,7 +205,7 @@ func TestPromise1AreaFaults(t *testing.T) {
 func TestPromise1MeasuresNoPrecision(t *testing.T) {
 	d := dice(116)
 	all := [][]impl.Point{nil, d.places(1), d.places(3), d.ring(4), d.ring(mostPoints), d.places(mostPoints + 1), alike(5, faultyPoints()[0])}
-	for _, c := range listCalls() {
+	for _, c := range allListCalls() {
 		for _, p := range noPrecisions() {
 			for i, a := range all {
 				if c.precise {
@@ -233,7 +233,7 @@ func TestPromise1TurnsPure(t *testing.T) {
 func TestPromise1MeasuresKeepNothing(t *testing.T) {
 	all := sumLists()
 	var questions []func() answer
-	for _, c := range listCalls() {
+	for _, c := range allListCalls() {
 		for _, p := range c.precisionsOf() {
 			for i, a := range all {
 				if i%3 == int(p/24)%3 || !c.precise {
@@ -248,7 +248,7 @@ func TestPromise1MeasuresKeepNothing(t *testing.T) {
 // A list of any length is answered at once.
 func TestPromise1LongLists(t *testing.T) {
 	long := make([]impl.Point, 10000000)
-	for _, c := range listCalls() {
+	for _, c := range allListCalls() {
 		c.check(t, 96, long, long, answer{code: impl.ErrMany})
 	}
 }
