@@ -3,12 +3,13 @@ package tests
 import (
 	"fmt"
 	"slices"
+	"strings"
 	"testing"
 
 	"loop.example/g00742/impl"
 )
 
-// listCall is a function of chapter 6 or 7, as one of a precision and two lists of points.
+// listCall is a function of the chapters 6, 7 or 10, as one of a precision and two lists of points.
 type listCall struct {
 	name    string
 	precise bool
@@ -39,6 +40,19 @@ func (c listCall) check(t *testing.T, p int64, a []impl.Point, b []impl.Point, w
 	if got := c.run(p, a, b); !sameAnswers(got, want) {
 		t.Errorf("%s with %d of %v and %v: got %v, want %v", c.name, p, a, b, got, want)
 	}
+}
+
+// fault is what the call has to answer with this code; those that tell whether something is so have none to tell.
+func (c listCall) fault(code int64) answer {
+	if c.isCheck() {
+		return answer{}
+	}
+	return answer{code: code}
+}
+
+// isCheck tells that the call answers whether something is so. What the chapters promise is so of all lists without a fault.
+func (c listCall) isCheck() bool {
+	return strings.HasPrefix(c.name, "Is")
 }
 
 // fillerPoint is what the tests write over memory that nobody but its owner may look at.
@@ -147,9 +161,9 @@ func TestPromise1ListFaults(t *testing.T) {
 		for _, c := range allListCalls() {
 			for _, p := range c.precisionsOf() {
 				for i, other := range others {
-					c.check(t, p, f.list, other, answer{code: f.code})
+					c.check(t, p, f.list, other, c.fault(f.code))
 					if c.both && i < 2 {
-						c.check(t, p, other, f.list, answer{code: f.code})
+						c.check(t, p, other, f.list, c.fault(f.code))
 					}
 				}
 				if c.precise {
@@ -175,7 +189,12 @@ func TestPromise1ListBounds(t *testing.T) {
 				if n >= 4 {
 					list = d.ring(n)
 				}
-				if got := c.run(p, list, d.places(max(1, min(n, mostPoints)))); got.code != want {
+				got := c.run(p, list, d.places(max(1, min(n, mostPoints))))
+				if c.isCheck() {
+					if isSo := got.value == 1; isSo != (want == impl.OK) {
+						t.Errorf("%s of %d points: got %v", c.name, n, got)
+					}
+				} else if got.code != want {
 					t.Errorf("%s with %d of %d points: got %v, want %d", c.name, p, n, got, want)
 				}
 			}
@@ -249,6 +268,6 @@ func TestPromise1MeasuresKeepNothing(t *testing.T) {
 func TestPromise1LongLists(t *testing.T) {
 	long := make([]impl.Point, 10000000)
 	for _, c := range allListCalls() {
-		c.check(t, 96, long, long, answer{code: impl.ErrMany})
+		c.check(t, 96, long, long, c.fault(impl.ErrMany))
 	}
 }

@@ -3,6 +3,7 @@ package tests
 import (
 	"fmt"
 	"math"
+	"slices"
 	"testing"
 
 	"loop.example/g00742/impl"
@@ -22,9 +23,9 @@ func questionCalls() []listCall {
 	return []listCall{best, withinCall(0), withinCall(5000 * 1000000000)}
 }
 
-// allListCalls are these and those of chapter 6.
+// allListCalls are these and those of the chapters 6 and 10.
 func allListCalls() []listCall {
-	return append(listCalls(), questionCalls()...)
+	return slices.Concat(listCalls(), questionCalls(), auditCalls())
 }
 
 // The faults of both lists are asked ahead of far.

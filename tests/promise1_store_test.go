@@ -302,7 +302,7 @@ func TestPromise1StoreCodes(t *testing.T) {
 			}
 		}
 	}
-	for name, want := range map[string]int{"IsName": 1, "SameStores": 1, "StoreFault": 5, "GetShape": 6, "PutShape": 6, "DropShape": 6, "DistanceIn": 6, "LengthIn": 6, "AreaIn": 6, "ScanWithin": 6} {
+	for name, want := range map[string]int{"IsName": 1, "SameStores": 1, "StoreFault": 5, "GetShape": 6, "PutShape": 6, "DropShape": 6, "DistanceIn": 6, "LengthIn": 6, "AreaIn": 6, "ScanWithin": 6, "NamesIn": 5} {
 		if len(coded[name]) < want {
 			t.Errorf("%s tells only the codes %v", name, coded[name])
 		}
@@ -334,7 +334,7 @@ func TestPromise1LongStores(t *testing.T) {
 	full, name := storeWith(fullNames, storedSets()...), strings.Repeat("a", long)
 	called := storeOf(named(name, set))
 	codes := map[string][4]int64{
-		"StoreFault": {impl.ErrMany, impl.ErrMany, impl.ErrText, impl.OK}, "PutShape": {impl.ErrMany, impl.ErrMany, impl.ErrText, impl.ErrText},
+		"StoreFault": {impl.ErrMany, impl.ErrMany, impl.ErrText, impl.OK}, "NamesIn": {impl.ErrMany, impl.ErrMany, impl.ErrText, impl.OK}, "PutShape": {impl.ErrMany, impl.ErrMany, impl.ErrText, impl.ErrText},
 		"GetShape": {impl.ErrMany, impl.ErrMany, impl.ErrText, impl.ErrNone}, "DropShape": {impl.ErrMany, impl.ErrMany, impl.ErrText, impl.ErrNone}, "DistanceIn": {impl.ErrMany, impl.ErrMany, impl.ErrText, impl.ErrNone},
 		"LengthIn": {impl.ErrMany, impl.ErrMany, impl.ErrText, impl.ErrNone}, "AreaIn": {impl.ErrMany, impl.ErrMany, impl.ErrText, impl.ErrNone}, "ScanWithin": {impl.ErrMany, impl.ErrMany, impl.ErrText, impl.ErrNone},
 	}

@@ -26,7 +26,7 @@ var (
 	ringKinds = []int64{kindRing}
 )
 
-// storeQuestion is all that the functions of chapter 9 are asked with.
+// storeQuestion is all that the functions of chapter 9, and NamesIn of chapter 10, are asked with.
 type storeQuestion struct {
 	store, other impl.Store
 	a, b         string
@@ -42,9 +42,10 @@ type storeAnswer struct {
 	shape impl.Shape
 	store impl.Store
 	names [3][]string
+	count int64
 }
 
-// storeCall is a function of chapter 9, and what it has to answer, told without it.
+// storeCall is one of these functions, and what it has to answer, told without it.
 type storeCall struct {
 	name string
 	run  func(q storeQuestion) storeAnswer
@@ -63,11 +64,15 @@ func ofFar(r impl.RangeResult) storeAnswer {
 	return storeAnswer{code: r.Code, far: r.Range}
 }
 
+func ofCount(r impl.IntResult) storeAnswer {
+	return storeAnswer{code: r.Code, count: r.Value}
+}
+
 func ofScan(r impl.ScanResult) storeAnswer {
 	return storeAnswer{code: r.Code, names: [3][]string{r.Yes, r.No, r.Unknown}}
 }
 
-// storeCalls are all functions of chapter 9.
+// storeCalls are all of these functions.
 func storeCalls() []storeCall {
 	return append(rangeCalls(),
 		storeCall{"IsName", func(q storeQuestion) storeAnswer { return storeAnswer{isSo: impl.IsName(q.a)} }, func(q storeQuestion) storeAnswer { return storeAnswer{isSo: nameText.MatchString(q.a)} }},
@@ -78,6 +83,7 @@ func storeCalls() []storeCall {
 		storeCall{"SameStores", func(q storeQuestion) storeAnswer { return storeAnswer{isSo: impl.SameStores(q.store, q.other)} }, func(q storeQuestion) storeAnswer {
 			return storeAnswer{isSo: storeText(q.store) == storeText(q.other)}
 		}},
+		storeCall{"NamesIn", func(q storeQuestion) storeAnswer { return ofCount(impl.NamesIn(q.store)) }, wantNames},
 	)
 }
 
@@ -117,7 +123,7 @@ func storeText(s impl.Store) string {
 }
 
 func (a storeAnswer) text() string {
-	return fmt.Sprintf("%d %t %v %v %q %s", a.code, a.isSo, a.far, a.shape, a.names, storeText(a.store))
+	return fmt.Sprintf("%d %t %d %v %v %q %s", a.code, a.isSo, a.count, a.far, a.shape, a.names, storeText(a.store))
 }
 
 // isAheadOf tells that one name is ahead of another one, byte by byte.
@@ -289,6 +295,15 @@ func otherSets(s impl.Store, name string) []impl.Named {
 		}
 	}
 	return sets
+}
+
+// wantNames counts the sets of the store.
+func wantNames(q storeQuestion) storeAnswer {
+	if code := faultOfStore(q.store); code != impl.OK {
+		return storeAnswer{code: code}
+	}
+	// No store without a fault has this name.
+	return storeAnswer{count: int64(len(otherSets(q.store, "")))}
 }
 
 func named(name string, s impl.Shape) impl.Named {
