@@ -26,7 +26,7 @@ var (
 	ringKinds = []int64{kindRing}
 )
 
-// storeQuestion is all that the functions of chapter 9, and NamesIn of chapter 10, are asked with.
+// storeQuestion is all that the functions of chapter 9, NamesIn of chapter 10, and those of chapter 11 are asked with; of the last ones, a is the line or the script.
 type storeQuestion struct {
 	store, other impl.Store
 	a, b         string
@@ -43,6 +43,7 @@ type storeAnswer struct {
 	store impl.Store
 	names [3][]string
 	count int64
+	said  string
 }
 
 // storeCall is one of these functions, and what it has to answer, told without it.
@@ -123,7 +124,7 @@ func storeText(s impl.Store) string {
 }
 
 func (a storeAnswer) text() string {
-	return fmt.Sprintf("%d %t %d %v %v %q %s", a.code, a.isSo, a.count, a.far, a.shape, a.names, storeText(a.store))
+	return fmt.Sprintf("%d %t %d %v %v %q %q %s", a.code, a.isSo, a.count, a.far, a.shape, a.names, a.said, storeText(a.store))
 }
 
 // isAheadOf tells that one name is ahead of another one, byte by byte.
